@@ -1,0 +1,1 @@
+"""Partloft: parts made and cut with exact numbers."""
