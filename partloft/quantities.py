@@ -123,7 +123,6 @@ def _greater(left, right):
 
 
 def _middle(first, second, third):
-    _check_same_kind(second, third)
     low = _lesser(first, second)
     high = _greater(first, second)
     return _greater(low, _lesser(high, third))

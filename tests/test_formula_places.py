@@ -71,6 +71,14 @@ class Point13(Places):
         self.check_formula("1?" * 12 + "1?1:" * 12 + "1" + ":1" * 12)
         self.check_place("1?" * 12 + "1?1:" * 12 + "-1" + ":1" * 12, 72)
 
+    def test_what_is_closed_is_open_no_more(self):
+        for closed in ("(1)", "abs(1)", "-1", "!1", "(1?1:1)", "min(1,1)", "(1?1?1:1:1)"):
+            row = closed + ("+" + closed) * 11
+            self.check_formula(row + "+" + "(" * 24 + "1" + ")" * 24)
+            self.check_place(row + "+" + "(" * 25 + "1" + ")" * 25, len(row) + 25)
+        self.check_formula("+".join(["(1)"] * 60))
+        self.check_formula("+".join(["abs(1)"] * 34))
+
     def test_the_condition_is_not_within_the_question_mark(self):
         self.check_formula("(" * 24 + "1" + ")" * 24 + "?" + "(" * 23 + "1" + ")" * 23 + ":1")
         self.check_place("1?" + "(" * 24 + "1" + ")" * 24 + ":1", 25)

@@ -85,6 +85,16 @@ class Point17Signs(unittest.TestCase):
                 found = [operate(sign, low, high), operate(sign, high, low), operate(sign, high, high)]
                 self.assertEqual(found, [(answer, 1, 0) for answer in answers])
 
+    def test_comparisons_of_near_numbers(self):
+        for one in range(-3, 4):
+            for other in range(-3, 4):
+                left, right = (one, 1, 2), (other, 1, 2)
+                wanted = [one == other, one != other, one < other, one <= other, one > other, one >= other]
+                found = [operate(sign, left, right) for sign in ("==", "!=", "<", "<=", ">", ">=")]
+                self.assertEqual(found, [(int(answer), 1, 0) for answer in wanted])
+                self.assertEqual(call("min", [left, right]), (min(one, other), 1, 2))
+                self.assertEqual(call("max", [left, right]), (max(one, other), 1, 2))
+
     def test_the_same_kind_is_needed(self):
         for sign in ("+", "-", "==", "!=", "<", "<=", ">", ">="):
             with self.subTest(sign):
