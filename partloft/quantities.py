@@ -1,8 +1,7 @@
 """Quantities: exact fractions, each with a power of length."""
 
-from math import gcd
-
 from partloft.errors import Fault
+from partloft.ratios import lowest_terms
 
 LARGEST = 1000000000
 LARGEST_KIND = 4
@@ -14,11 +13,7 @@ def make_quantity(numerator, denominator, kind):
         raise Fault("kinds")
     if denominator == 0:
         raise Fault("zero")
-    shared = gcd(numerator, denominator)
-    if denominator < 0:
-        shared = -shared
-    top = numerator // shared
-    bottom = denominator // shared
+    top, bottom = lowest_terms(numerator, denominator)
     if abs(top) > LARGEST or bottom > LARGEST:
         raise Fault("big")
     return (top, bottom, kind)

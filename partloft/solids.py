@@ -58,17 +58,13 @@ class Solid:
 
     def moved(self, dx, dy, dz):
         """The solid moved by so many units; what would leave the room is cut off."""
-        moved = []
-        for grain in self._grains:
-            x, y, z = middle_of(self.size, grain)
-            moved.append(grain_at(self.size, x + 8 * dx, y + 8 * dy, z + 8 * dz))
-        return Solid(self.size, [grain for grain in moved if grain is not None])
+        return solid_at(self.size, [(x + 8 * dx, y + 8 * dy, z + 8 * dz) for (x, y, z) in self._middles()])
 
     def turned(self, way):
         """The solid turned and mirrored by a way."""
         if not 0 <= way < WAYS:
             raise InvalidWay(way)
-        return _solid_at(self.size, [_turned_point(self.size, way, middle) for middle in self._middles()])
+        return solid_at(self.size, [_turned_point(self.size, way, middle) for middle in self._middles()])
 
     def grown(self, t):
         """The solid united with itself moved by up to t along the axes."""
@@ -77,7 +73,7 @@ class Solid:
         # To move along several axes is to move along one after the other.
         for axis in range(3):
             middles = _spread(self.size, list(middles), axis, t)
-        return _solid_at(self.size, list(middles))
+        return solid_at(self.size, list(middles))
 
     def shrunk(self, t):
         """The solid with the grains that stay in it when they are moved by up to t."""
@@ -136,9 +132,10 @@ def whole(size):
     return empty(size).rest()
 
 
-def _solid_at(size, middles):
-    """The solid of the grains with these middles."""
-    return Solid(size, [grain_at(size, x, y, z) for (x, y, z) in middles])
+def solid_at(size, middles):
+    """The solid of the grains with these middles; those out of the room are cut off."""
+    grains = [grain_at(size, x, y, z) for (x, y, z) in middles]
+    return Solid(size, [grain for grain in grains if grain is not None])
 
 
 def _turned_point(size, way, point):

@@ -3,38 +3,13 @@
 import itertools
 import unittest
 
-from helping import refusal
-from partloft.grains import corners_of, grain_at, grain_count, middle_of, neighbour_at
+from helping import block, middles, refusal, solid_of, spotted
+from partloft.grains import corners_of, grain_at, grain_count, neighbour_at
 from partloft.solids import Solid, empty, whole
-
-
-def spotted(size, step, start=0):
-    """A solid with grains at irregular distances."""
-    return Solid(size, [grain for grain in range(grain_count(size)) if (grain * grain + start) % step == 0])
-
-
-def block(size, low, high):
-    """The grains of the cubes from low to high, without high."""
-    found = []
-    for grain in range(grain_count(size)):
-        cube = [coordinate // 8 for coordinate in middle_of(size, grain)]
-        if all(low[axis] <= cube[axis] < high[axis] for axis in range(3)):
-            found.append(grain)
-    return Solid(size, found)
-
-
-def middles(solid):
-    return {middle_of(solid.size, grain) for grain in solid.grains()}
 
 
 def shifted(points, shift):
     return {tuple(point[axis] + 8 * shift[axis] for axis in range(3)) for point in points}
-
-
-def solid_of(size, points):
-    """The solid of those of the middles that lie in the room."""
-    grains = [grain_at(size, *point) for point in points]
-    return Solid(size, [grain for grain in grains if grain is not None])
 
 
 class Point65(unittest.TestCase):
