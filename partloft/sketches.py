@@ -123,6 +123,10 @@ class Sketch:
         """A dict from numbers to (kind, a, b, c, text)."""
         return dict(self._constraints)
 
+    def added(self):
+        """How many lines, discs and constraints were ever added, those that were dropped included."""
+        return (self._added["lines"], self._added["discs"], self._added["constraints"])
+
     def copy(self):
         """A sketch with the same parts and numbers."""
         twin = Sketch(self._axis, self._offset)

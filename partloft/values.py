@@ -11,6 +11,15 @@ MOST_CONFIGURATIONS = 4
 LARGEST_WHOLE = 200
 
 
+class Formula:
+    """A formula that was read: its text, its expression, and the names that occur in it."""
+
+    def __init__(self, text):
+        self.text = text
+        self.tree = read_formula(text)
+        self.needs = _names_of(self.tree)
+
+
 class Values:
     """Values in the order in which they were made, and configurations."""
 
@@ -18,11 +27,11 @@ class Values:
         self._names = []
         # The base of each configuration; the configuration 0 has none.
         self._bases = [None]
-        # The own formulas of each configuration: from names to texts.
+        # The own formulas of each configuration, by the names of the values.
         self._own = [{}]
-        # The expressions of these texts, so that each is read only once.
-        self._read = [{}]
         self._chosen = 0
+        # What was worked out since the last change: quantities, or None for a fault.
+        self._known = {}
 
     def define(self, name, text, configuration=0):
         """Gives a value a formula; a new name makes a new value."""
@@ -32,14 +41,18 @@ class Values:
         is_new = name not in self._own[0]
         if is_new and configuration != 0:
             raise NoSuchValue(name)
-        expression = read_formula(text)
-        self._check_needs(name, text, configuration)
+        formula = Formula(text)
+        self._check_needs(name, formula, configuration)
         if is_new and len(self._names) == MOST_VALUES:
             raise TooMany("values")
-        if is_new:
+        self.put(name, formula, configuration)
+
+    def put(self, name, formula, configuration):
+        """Gives a value a formula of which nothing is checked any more."""
+        if name not in self._own[0]:
             self._names.append(name)
-        self._own[configuration][name] = text
-        self._read[configuration][name] = expression
+        self._own[configuration][name] = formula
+        self._known = {}
 
     def add_configuration(self, base):
         """The number of a new configuration."""
@@ -48,7 +61,6 @@ class Values:
             raise TooMany("configurations")
         self._bases.append(base)
         self._own.append({})
-        self._read.append({})
         return len(self._bases) - 1
 
     def choose(self, configuration):
@@ -56,6 +68,7 @@ class Values:
         self._check_configuration(configuration)
         before = self._chosen
         self._chosen = configuration
+        self._known = {}
         return before
 
     def chosen(self):
@@ -66,6 +79,10 @@ class Values:
         """How many configurations there are."""
         return len(self._bases)
 
+    def base(self, configuration):
+        """The base of a configuration, None for the configuration 0."""
+        return self._bases[configuration]
+
     def names(self):
         """The list of the names of the values, in the order in which they were made."""
         return list(self._names)
@@ -74,18 +91,36 @@ class Values:
         """The text that a value has in a configuration."""
         self._check_value(name)
         self._check_configuration(configuration)
-        return self._own[self._home(name, configuration)][name]
+        return self._formula_in(name, configuration).text
 
     def value(self, name):
         """The quantity of a value in the chosen configuration."""
         self._check_value(name)
-        return evaluate(self.expression(name), self)
+        return evaluate(self._formula_in(name, self._chosen).tree, self)
 
-    def expression(self, name):
-        """The expression of a value in the chosen configuration, None if there is no such value."""
-        if name not in self._own[0]:
-            return None
-        return self._read[self._home(name, self._chosen)][name]
+    def chosen_formula(self, name):
+        """The formula that a value has in the chosen configuration, None if there is no such value."""
+        return self._formula_in(name, self._chosen) if name in self._own[0] else None
+
+    def known(self):
+        """A dict from names to quantities in the chosen configuration; evaluating adds to it."""
+        return self._known
+
+    def own_texts(self, configuration):
+        """The list of (name, text) of the own formulas of a configuration, in the order of the values."""
+        own = self._own[configuration]
+        return [(name, own[name].text) for name in self._names if name in own]
+
+    def is_sound(self, configuration, many):
+        """True if none of the first so many values needs itself by way of these alone."""
+        left = {name: self._formula_in(name, configuration).needs for name in self._names[:many]}
+        while left:
+            ready = [name for name in left if not any([other in left for other in left[name]])]
+            if not ready:
+                return False
+            for name in ready:
+                del left[name]
+        return True
 
     def _check_value(self, name):
         if name not in self._own[0]:
@@ -95,19 +130,20 @@ class Values:
         if not 0 <= configuration < len(self._bases):
             raise NoSuchConfiguration(configuration)
 
-    def _home(self, name, configuration):
-        """The configuration whose own formula a value has in this one."""
+    def _formula_in(self, name, configuration):
+        """The formula that a value has in a configuration: its own one, or else that of the base."""
         while name not in self._own[configuration]:
             configuration = self._bases[configuration]
-        return configuration
+        return self._own[configuration][name]
 
-    def _check_needs(self, name, text, configuration):
+    def _check_needs(self, name, formula, configuration):
         """Refuses a formula by which a value would need itself anywhere."""
-        places = self._where_it_counts(name, configuration)
-        for place, other in names_in(text):
-            for number in places:
-                if name in self._needed(other, number):
-                    raise InvalidFormula(place)
+        needing = {}
+        for number in self._where_it_counts(name, configuration):
+            for other in self._needing(name, number):
+                needing[other] = True
+        if any([other in needing for other in formula.needs]):
+            raise InvalidFormula([place for place, other in names_in(formula.text) if other in needing][0])
 
     def _where_it_counts(self, name, configuration):
         """The configurations in which an own formula of this one is the value's formula."""
@@ -117,24 +153,26 @@ class Values:
                 places.append(number)
         return places
 
-    def _needed(self, name, configuration):
-        """A name and all names that its value needs in a configuration."""
+    def _needing(self, name, configuration):
+        """The list of a name and of all values that need it in a configuration."""
+        needed_by = {}
+        for one in self._names:
+            for other in self._formula_in(one, configuration).needs:
+                needed_by.setdefault(other, []).append(one)
         found = {name: True}
         waiting = [name]
         while waiting:
-            one = waiting.pop()
-            if one in self._own[0]:
-                expression = self._read[self._home(one, configuration)][one]
-                fresh = [other for other in _names_of(expression) if other not in found]
-                for other in fresh:
-                    found[other] = True
-                waiting.extend(fresh)
-        return found
+            for one in needed_by.get(waiting.pop(), []):
+                if one not in found:
+                    found[one] = True
+                    waiting.append(one)
+        return list(found)
 
 
 def evaluate(expression, values):
     """The quantity of an expression in the chosen configuration; raises Fault."""
-    return _result(expression, _worked_out(_names_of(expression), values))
+    _work_out(_names_of(expression), values)
+    return _result(expression, values.known())
 
 
 def whole_number(expression, values):
@@ -164,32 +202,29 @@ def _names_of(expression):
     return list(names)
 
 
-def _worked_out(names, values):
-    """A dict from names, and all that they need, to quantities; None stands for a fault.
+def _work_out(names, values):
+    """Makes the quantities of names known, and those of all that they need; None stands for a fault.
 
     The names wait on a list instead of in calls, because a row of values that
     need each other would nest the calls of all their formulas.
     """
-    known = {}
-    waiting = list(names)
+    known = values.known()
+    waiting = [name for name in names if name not in known]
     while waiting:
         name = waiting[-1]
-        expression = values.expression(name)
+        formula = values.chosen_formula(name)
         missing = []
-        if expression is not None:
-            missing = [other for other in _names_of(expression) if other not in known]
+        if formula is not None:
+            missing = [other for other in formula.needs if other not in known]
         if missing:
             waiting.extend(missing)
         else:
             waiting.pop()
             if name not in known:
-                known[name] = _quantity_or_none(expression, known)
-    return known
+                known[name] = None if formula is None else _quantity_or_none(formula.tree, known)
 
 
 def _quantity_or_none(expression, known):
-    if expression is None:
-        return None
     try:
         return _result(expression, known)
     except Fault:

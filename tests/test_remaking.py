@@ -10,7 +10,6 @@ from partloft.faces import boundary_of, faces_of
 from partloft.formulas import read_formula
 from partloft.grains import grain_count, middle_of, neighbour_at
 from partloft.histories import History
-from partloft.planes import quarter_at
 from partloft.repeating import mirror_of, ring_of, row_of
 from partloft.solids import Solid, empty, whole
 from partloft.solving import solve
@@ -20,6 +19,11 @@ from test_features import FORMS
 
 def texts(*numbers):
     return tuple(str(number) for number in numbers)
+
+
+def quarter(u, v):
+    """In which quarter of which unit square a point in eighths lies, as on which side of both diagonals."""
+    return (u // 8, v // 8, u % 8 > v % 8, u % 8 + v % 8 > 8)
 
 
 def blocks(size, *rows):
@@ -482,12 +486,12 @@ class Model:
         direction, offset, facets = face
         axis = [k for k in range(3) if direction[k]][0]
         others = [k for k in range(3) if k != axis]
-        wanted = {quarter_at(*[middle_of(self.size, grain)[k] for k in others]) for grain, _ in facets}
+        wanted = {quarter(*[middle_of(self.size, grain)[k] for k in others]) for grain, _ in facets}
         found = []
         for grain in range(grain_count(self.size)):
             middle = middle_of(self.size, grain)
             away = direction[axis] * middle[axis] / 8 - offset
-            if quarter_at(*[middle[k] for k in others]) in wanted and (0 < away <= h or h <= away < 0):
+            if quarter(*[middle[k] for k in others]) in wanted and (0 < away <= h or h <= away < 0):
                 found.append(grain)
         reached = Solid(self.size, found)
         if h > 0:
